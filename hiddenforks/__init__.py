@@ -1,0 +1,1 @@
+"""Hiddenforks: a log that shows unlike people unlike things."""

@@ -1,0 +1,216 @@
+"""Points [2], [3] and [15]: the general rules and the interface, over all that has landed."""
+
+import ast
+import copy
+import inspect
+import pathlib
+import unittest
+
+from hiddenforks import data, errors, forks, hall
+from hiddenforks.forks import fork, paper
+from hiddenforks.hall import Hall, noticed_at
+
+from support import DRAWN, KINDS, TABLE, junk, large_tables, listed, nested, tupled
+
+INTERFACE = {
+    data: {"is_event": "people thing", "is_timetable": "thing", "is_head": "thing", "is_story": "timetable thing",
+           "looks": "timetable", "adds": "timetable", "begins": "head other", "comparable": "head other"},
+    hall: {"noticed_at": "timetable kind story", "is_unseen": "timetable kind story", "is_kind": "thing",
+           "Hall": "people kind"},
+    forks: {"alikes": "timetable kind", "leads": "timetable kind", "hidden": "timetable kind i j",
+            "hidden_pairs": "timetable kind", "fork": "timetable kind i j", "seen_at": "timetable kind i j",
+            "paper": "timetable kind i j", "shows_seen": "timetable kind i j thing"},
+}
+METHODS = {"look": "person head", "add": "person", "meet": "person other", "tell": "person other", "do": "event head",
+           "knows": "person", "wants": "person", "noticed": "", "adders": "", "twin": "", "__eq__": "other",
+           "__len__": "", "__repr__": ""}
+STORY = ((1000,), (1001,), (0, 1002))
+
+
+def calls():
+    """Functions with arguments, and whether the last one is a thing."""
+    yield data.is_event, (3, ("meet", 0, 1)), True
+    yield data.is_timetable, (TABLE,), True
+    yield data.is_head, ((1, 0),), True
+    for table in (TABLE, DRAWN, (1, ())):
+        yield data.looks, (table,), False
+        yield data.adds, (table,), False
+        for kind in KINDS:
+            yield forks.alikes, (table, kind), False
+            yield forks.leads, (table, kind), False
+            yield forks.hidden_pairs, (table, kind), False
+    yield data.is_story, (TABLE, STORY), True
+    for function in (data.begins, data.comparable):
+        yield function, ((1, 2), (1, 2, 3)), False
+        yield function, ((1, 2), (2, 1)), False
+    for kind in KINDS:
+        yield hall.is_kind, (kind,), True
+        yield hall.noticed_at, (TABLE, kind, STORY), False
+        yield hall.is_unseen, (TABLE, kind, ((1000,), (), (1000, 0))), False
+        for i, j in ((0, 1), (1, 0), (1, 2), (2, 0)):
+            for function in (forks.hidden, forks.fork, forks.seen_at, forks.paper):
+                yield function, (TABLE, kind, i, j), False
+            yield forks.shows_seen, (TABLE, kind, i, j, paper(TABLE, kind, i, j)), True
+
+
+def with_lists(arguments, has_thing):
+    """The arguments with lists for tuples; a thing stays as it is, since a list is another thing."""
+    if has_thing:
+        return listed(arguments[:-1]) + [arguments[-1]]
+    return listed(arguments)
+
+
+class General(unittest.TestCase):
+
+    def test_the_same_call_with_lists_by_names_and_again(self):
+        for function, arguments, has_thing in calls():
+            names = list(inspect.signature(function).parameters)
+            want = function(*arguments)
+            for given in (arguments, with_lists(arguments, has_thing)):
+                for got in (function(*given), function(**dict(zip(names, given))),
+                            function(*given[:1], **dict(zip(names[1:], given[1:]))), function(*given)):
+                    self.assertEqual(repr(got), repr(want), (function.__name__, given))
+
+    def test_lists_at_some_depths_only(self):
+        story = [(1000,), [1001], [0, 1002]]
+        for table in ([3, TABLE[1]], (3, listed(TABLE[1])), (3, [["look", 0]] + list(TABLE[1][1:])),
+                      (3, (["look", 0],) + TABLE[1][1:])):
+            self.assertEqual(data.looks(table), data.looks(TABLE))
+            self.assertEqual(noticed_at(table, "long", story), noticed_at(TABLE, "long", STORY))
+            self.assertEqual(forks.leads(table, "long"), forks.leads(TABLE, "long"))
+            self.assertEqual(paper(table, "long", 0, 1), paper(TABLE, "long", 0, 1))
+            self.assertEqual(fork(table, "short", 0, 1), fork(TABLE, "short", 0, 1))
+
+    def test_arguments_stay_as_they_are(self):
+        for function, arguments, has_thing in calls():
+            for given in (arguments, with_lists(arguments, has_thing)):
+                before = copy.deepcopy(given)
+                function(*given)
+                self.assertEqual(repr(given), repr(before), function.__name__)
+
+    def test_returned_lists_are_new_and_of_tuples(self):
+        for function, arguments, has_thing in calls():
+            given = with_lists(arguments, has_thing)
+            got = function(*given)
+            self.assertEqual(got, [tupled(row) for row in got] if isinstance(got, list) else tupled(got))
+            if function in (fork, paper, noticed_at):
+                self.assertIn(type(got), (tuple, type(None)))
+            if isinstance(got, list):
+                want = list(got)
+                got.append("mine")
+                got[:1] = []
+                self.assertEqual(function(*given), want, function.__name__)
+                self.assertIsNot(function(*given), function(*given))
+
+    def test_a_thing_of_any_kind_is_answered_by_a_bool(self):
+        things = junk() + [nested(12, thing, make) for thing in (0, True, None, "look", ()) for make in (tuple, list)]
+        for function, arguments, has_thing in calls():
+            if has_thing:
+                for thing in things + [listed(arguments[-1])]:
+                    self.assertIs(type(function(*arguments[:-1], thing)), bool, (function.__name__, thing))
+
+    def test_things_are_not_changed(self):
+        for function, arguments, has_thing in calls():
+            if has_thing:
+                for thing in junk() + [listed(arguments[-1])]:
+                    before = repr(thing)
+                    function(*arguments[:-1], thing)
+                    self.assertEqual(repr(thing), before)
+
+    def test_a_hall_copies_what_it_is_passed_and_gives_what_is_new(self):
+        one = Hall(2, "long")
+        head, event = [1000, 1001], ["look", 1]
+        one.look(0, head), one.do(event, head), one.add(0)
+        head.append(1002), event.append(7)
+        self.assertEqual((one.knows(0), one.knows(1)), ((1000, 1001), (1000, 1001)))
+        for query in (one.noticed, one.adders, lambda: one.wants(0)):
+            self.assertIs(type(query()), list)
+            want = tuple(query())
+            query().append(9)
+            self.assertEqual(tuple(query()), want)
+        one.look(0, ())
+        one.noticed().append(1), one.adders().append(1)
+        self.assertEqual((one.noticed(), one.adders(), repr(one)), ([0], [0], "Hall(2 people, 1 noticed)"))
+
+    def test_the_methods_by_names_and_with_lists(self):
+        one, other = Hall(people=3, kind="long"), Hall(3, "long")
+        got = [one.add(person=0), one.look(person=0, head=[0, 1000]), one.meet(person=0, other=1),
+               one.look(head=(1001,), person=2), one.tell(other=2, person=1), one.do(event=["look", 1], head=[0]),
+               one.do(head=None, event=["meet", 1, 0]), one.knows(person=1), one.wants(person=0)]
+        want = [other.add(0), other.look(0, (0, 1000)), other.meet(0, 1), other.look(2, (1001,)), other.tell(1, 2),
+                other.do(("look", 1), (0,)), other.do(("meet", 1, 0)), other.knows(1), other.wants(0)]
+        self.assertEqual(got, want)
+        self.assertEqual(want, [0, "fine", "fine", "fine", "unlike", "unlike", "fine", (0, 1000), [0]])
+        self.assertTrue(one == other)
+
+
+class Interface(unittest.TestCase):
+
+    def test_names_arguments_and_files(self):
+        for module, functions in INTERFACE.items():
+            for name, parameters in functions.items():
+                function = getattr(module, name)
+                self.assertEqual(list(inspect.signature(function).parameters), parameters.split(), name)
+                self.assertEqual(function.__module__, module.__name__, name)
+
+    def test_the_methods_stand_in_the_class_itself(self):
+        for name, parameters in METHODS.items():
+            method = vars(Hall)[name]
+            self.assertEqual(list(inspect.signature(method).parameters), ["self"] + parameters.split(), name)
+        self.assertIsNone(inspect.signature(Hall.do).parameters["head"].default)
+        self.assertEqual(Hall.__bases__, (object,))
+
+    def test_all_is_defined_in_its_own_file(self):
+        for module, functions in list(INTERFACE.items()) + [(errors, {"NoLook": "", "BadStory": ""})]:
+            tree = ast.parse(pathlib.Path(module.__file__).read_text())
+            defined = {node.name for node in tree.body if isinstance(node, (ast.FunctionDef, ast.ClassDef))}
+            self.assertLessEqual(set(functions), defined)
+
+
+class Bounds(unittest.TestCase):
+
+    def test_timetables_at_the_bounds(self):
+        tables = list(large_tables(61, 8))
+        self.assertEqual((tables[0][0], len(tables[0][1]), len(data.looks(tables[0]))), (6, 16, 8))
+        self.assertEqual(len([event for event in tables[0][1] if event[0] in ("meet", "tell")]), 8)
+        for table in tables:
+            self.assertIs(data.is_timetable(table), True)
+            for kind in KINDS:
+                self.check_table(table, kind)
+
+    def check_table(self, table, kind):
+        many = len(data.looks(table))
+        story = tuple((1000,) for _ in range(many))
+        self.assertIs(data.is_story(table, story), True)
+        self.assertEqual(hall.is_unseen(table, kind, story), noticed_at(table, kind, story) is None)
+        self.assertEqual(len(forks.alikes(table, kind)) + len(forks.hidden_pairs(table, kind)), many * (many - 1) // 2)
+        self.assertLessEqual(set(forks.leads(table, kind)), set(forks.alikes(table, kind)))
+        for i in range(many):
+            for j in range(many):
+                if i != j:
+                    answers = (forks.hidden(table, kind, i, j), fork(table, kind, i, j) is not None,
+                               forks.seen_at(table, kind, i, j) is None, paper(table, kind, i, j) is None,
+                               not forks.shows_seen(table, kind, i, j, paper(table, kind, i, j)))
+                    self.assertIn(answers, ((True,) * 5, (False,) * 5))
+
+    def test_a_long_hall(self):
+        for kind in KINDS:
+            one = Hall(6, kind)
+            for at in range(30):
+                self.assertEqual(one.add(at % 6), at)
+            for at in range(15):
+                head = tuple(range(30)) + tuple(range(1000, 1000 + at))
+                self.assertEqual(one.look(at % 6, head), "fine")
+                self.assertEqual(one.meet(at % 6, (at + 1) % 6), "fine")
+            self.assertEqual((len(one), one.noticed(), one.wants(5)), (60, [], [5, 11, 17, 23, 29]))
+            self.assertEqual(one.knows(14 % 6), tuple(range(30)) + tuple(range(1000, 1014)))
+            self.assertTrue(one == one.twin())
+
+    def test_somewhat_beyond_the_bounds(self):
+        table = (8, tuple(("look", k % 8) for k in range(12)) + tuple(("meet", k % 7, k % 7 + 1) for k in range(12)))
+        for kind in KINDS:
+            self.check_table(table, kind)
+
+
+if __name__ == "__main__":
+    unittest.main()
