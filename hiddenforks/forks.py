@@ -1,7 +1,7 @@
 """Which forks stay unseen."""
 
+from hiddenforks.checks import check_looks
 from hiddenforks.data import looks
-from hiddenforks.errors import NoLook
 from hiddenforks.plain import is_number
 from hiddenforks.rules import alike_fact, direct_facts, drawn_pairs, facts_of, made_from, needed_for, pairs_of
 from hiddenforks.stories import unseen_story
@@ -25,7 +25,7 @@ def pairs_called(word, timetable, kind):
 
 def hidden(timetable, kind, i, j):
     """Whether two LOOKs are unlike in some unseen STORY."""
-    check_looks(timetable, i, j)
+    check_looks(timetable, [i, j])
     return alike_fact(i, j) not in facts_of(timetable, kind)
 
 
@@ -38,13 +38,13 @@ def hidden_pairs(timetable, kind):
 
 def fork(timetable, kind, i, j):
     """An unseen STORY in which both LOOKs are unlike; None if there is none."""
-    check_looks(timetable, i, j)
-    return unseen_story(timetable, facts_of(timetable, kind), {(i, j): True})
+    check_looks(timetable, [i, j])
+    return unseen_story(timetable, facts_of(timetable, kind), {(i, j): True, (j, i): True})
 
 
 def seen_at(timetable, kind, i, j):
     """The place of the first EVENT behind which both LOOKs are not hidden; None if they are."""
-    check_looks(timetable, i, j)
+    check_looks(timetable, [i, j])
     people, events = timetable
     for place in range(len(events)):
         if alike_fact(i, j) in facts_of((people, events[:place + 1]), kind):
@@ -54,7 +54,7 @@ def seen_at(timetable, kind, i, j):
 
 def paper(timetable, kind, i, j):
     """FACTs, each by a rule from those ahead of it, up to this: both LOOKs are alike; None if they are hidden."""
-    check_looks(timetable, i, j)
+    check_looks(timetable, [i, j])
     facts = facts_of(timetable, kind)
     goal = alike_fact(i, j)
     if goal not in facts:
@@ -65,7 +65,7 @@ def paper(timetable, kind, i, j):
 
 def shows_seen(timetable, kind, i, j, thing):
     """Whether thing is such a tuple of FACTs as paper returns."""
-    check_looks(timetable, i, j)
+    check_looks(timetable, [i, j])
     many = len(looks(timetable))
     if not isinstance(thing, tuple) or not all([is_fact(many, fact) for fact in thing]):
         return False
@@ -99,11 +99,3 @@ def in_order(fact):
     """The FACT, with the lesser LOOK first if the order does not matter."""
     word, one, other = fact
     return alike_fact(one, other) if word == "alike" else fact
-
-
-def check_looks(timetable, i, j):
-    """Raises NoLook for the first of both that is no LOOK."""
-    many = len(looks(timetable))
-    for number in (i, j):
-        if not 0 <= number < many:
-            raise NoLook(number)

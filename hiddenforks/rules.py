@@ -36,23 +36,39 @@ def drawn_pairs(timetable):
 
 def direct_facts(timetable, kind):
     """The FACTs by the rules (1) and (2), which need no other ones."""
-    people, events = timetable
-    had = [[] for _ in range(people)]
+    _, events = timetable
+    rows = had_ahead(timetable, kind)
     facts = {}
-    many = 0
-    for event in events:
-        person = event[1]
-        if event[0] == "look":
-            for look in had[person]:
-                facts[begins_fact(look, many)] = ()
-            had[person] = had[person] + [many]
-            many += 1
-        elif event[0] in ("meet", "tell"):
-            for one, other in met_pairs(had[person], had[event[2]], kind):
-                facts[alike_fact(one, other)] = ()
-            if kind == "long":
-                had = had_after(had, event)
+    for event, had, behind in zip(events, rows, rows[1:]):
+        for fact in facts_at(event, had, behind, kind):
+            facts[fact] = ()
     return facts
+
+
+def facts_at(event, had, behind, kind):
+    """The FACTs that this EVENT shows, told who has which LOOKs ahead of it and behind it."""
+    person = event[1]
+    if event[0] == "look":
+        return [begins_fact(look, behind[person][-1]) for look in had[person]]
+    if event[0] == "add":
+        return []
+    return [alike_fact(one, other) for one, other in met_pairs(had[person], had[event[2]], kind)]
+
+
+def had_ahead(timetable, kind):
+    """Who has which LOOKs ahead of each EVENT, and at last behind all of them."""
+    people, events = timetable
+    rows = [[[] for _ in range(people)]]
+    look = 0
+    for event in events:
+        if event[0] == "look":
+            rows.append(had_with(rows[-1], [event[1]], rows[-1][event[1]] + [look]))
+            look += 1
+        elif event[0] == "add" or kind == "short":
+            rows.append(rows[-1])
+        else:
+            rows.append(had_behind(rows[-1], event))
+    return rows
 
 
 def met_pairs(had, others, kind):
@@ -62,12 +78,16 @@ def met_pairs(had, others, kind):
     return [(had[-1], others[-1])] if had and others else []
 
 
-def had_after(had, event):
+def had_behind(had, event):
     """Who has which LOOKs behind a meet or tell of kind long."""
     word, person, other = event
-    hearers = (person, other) if word == "meet" else (other,)
-    both = joined(had[person], had[other])
-    return [list(both) if one in hearers else seen for one, seen in enumerate(had)]
+    hearers = [person, other] if word == "meet" else [other]
+    return had_with(had, hearers, joined(had[person], had[other]))
+
+
+def had_with(had, hearers, told):
+    """Who has which LOOKs when these hearers have what is told, and all others what they had."""
+    return [told if person in hearers else seen for person, seen in enumerate(had)]
 
 
 def joined(had, others):

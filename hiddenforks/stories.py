@@ -1,14 +1,15 @@
-"""Unseen STORYs in which some LOOKs are unlike."""
+"""Unseen STORYs in which some HEADs must not begin some others."""
 
 from hiddenforks.data import MADE_UP, adds, looks
 from hiddenforks.rules import alike_fact, begins_fact, drawn_pairs
 
 
-def unseen_story(timetable, facts, apart):
-    """An unseen STORY in which the pairs of apart (a dict of True) are unlike; None if there is none.
+def unseen_story(timetable, facts, barred):
+    """An unseen STORY in which no HEAD begins another one if their pair is in barred; None if there is none.
 
     LOOKs that hang together by being alike must share a beginning, so one of them has to begin all
-    others. It is taken away; what then no longer hangs together can go on in unlike ways.
+    others. It is taken away; what then no longer hangs together can go on in unlike ways. No look
+    does harm by being taken away early: where all can be done with many, it can be done with fewer.
     """
     drawn = drawn_pairs(timetable)
     many = len(looks(timetable))
@@ -16,7 +17,7 @@ def unseen_story(timetable, facts, apart):
     waiting = [(part, ()) for part in parts_of(list(range(many)), facts)]
     while waiting:
         members, before = waiting.pop()
-        first = first_of(members, facts, drawn, apart)
+        first = first_of(members, facts, drawn, barred)
         if first is None:
             return None
         heads[first] = head_behind(timetable, before, first)
@@ -45,19 +46,19 @@ def part_with(look, members, facts):
     return sorted(part)
 
 
-def first_of(members, facts, drawn, apart):
+def first_of(members, facts, drawn, barred):
     """The least member whose HEAD can begin those of all others; None if there is none."""
     for look in members:
-        if not any([cannot_begin(look, other, facts, drawn, apart) for other in members]):
+        if not any([cannot_begin(look, other, facts, drawn, barred) for other in members]):
             return look
     return None
 
 
-def cannot_begin(look, other, facts, drawn, apart):
+def cannot_begin(look, other, facts, drawn, barred):
     """Whether the HEAD of this LOOK cannot begin that of the other one."""
     if begins_fact(other, look) in facts or (other, look) in drawn:
         return True
-    return (look, other) in apart or (other, look) in apart
+    return (look, other) in barred
 
 
 def head_behind(timetable, before, look):

@@ -3,6 +3,7 @@
 The tellings here are made another way than those of the package, so that both can be compared.
 """
 
+import functools
 import itertools
 import random
 
@@ -11,8 +12,18 @@ KINDS = ("long", "short")
 TABLE = (3, (("look", 0), ("look", 1), ("meet", 0, 2), ("add", 2), ("look", 2), ("meet", 1, 2)))
 DRAWN = (5, (("look", 0), ("look", 1), ("add", 2), ("look", 2),
              ("tell", 2, 3), ("tell", 0, 3), ("tell", 2, 4), ("tell", 1, 4)))
+HEARD = (4, (("look", 0), ("look", 1), ("tell", 0, 2), ("tell", 1, 2)))
+TWICE = (2, (("look", 0), ("look", 1), ("meet", 0, 1), ("meet", 0, 1)))
 LINE = (5, (("look", 0), ("add", 2), ("add", 3), ("look", 2), ("look", 3), ("look", 1), ("look", 4),
             ("meet", 0, 1), ("meet", 1, 2), ("meet", 2, 3), ("meet", 3, 4)))
+
+
+def check_error(case, error, value, function, *arguments):
+    """The test case fails if this call does not raise just this error with this value alone."""
+    with case.assertRaises(error) as caught:
+        function(*arguments)
+    case.assertIs(type(caught.exception), error)
+    case.assertEqual(list(vars(caught.exception).values()), [value], (function.__name__, arguments))
 
 
 def nested(depth, core, make):
@@ -43,6 +54,11 @@ def tupled(value):
 
 def chance(seed):
     return random.Random(seed)
+
+
+def subsets(members):
+    """Every ascending tuple of them, by length, then ascending."""
+    return [some for size in range(len(members) + 1) for some in itertools.combinations(sorted(members), size)]
 
 
 def random_table(dice, people, looks, adds, meetings):
@@ -131,22 +147,34 @@ def heads_of(entries):
     return [head for size in range(len(entries) + 1) for head in itertools.permutations(entries, size)]
 
 
-def unseen_stories(table, kind, made_up=(1000, 1001)):
-    """Every unseen story of these made up entries and the added ones, by trying them."""
+def walks(table, kind, made_up=(1000, 1001), once=False):
+    """Every unseen story of these made up entries and the added ones, by trying them; and what all know at each place.
 
-    def go_on(place, known, added, story):
+    With once, stories that differ only in the names of made up entries are tried once: each new one is the least left.
+    """
+
+    def go_on(place, known, added, story, rows):
         if place == len(table[1]):
-            yield story
+            yield story, rows
             return
         event = table[1][place]
         heads = heads_of(tuple(range(len(added))) + tuple(made_up)) if event[0] == "look" else [None]
+        if once and event[0] == "look":
+            used = {entry for head in story for entry in head}
+            fresh = [entry for entry in made_up if entry not in used]
+            heads = [head for head in heads
+                     if [entry for entry in head if entry in fresh] == fresh[:len(set(head) & set(fresh))]]
         for head in heads:
             after, hearers = step(kind, known, added, event, head)
             if not hearers:
                 more = added + (event[1],) if event[0] == "add" else added
-                yield from go_on(place + 1, after, more, story if head is None else story + (head,))
+                yield from go_on(place + 1, after, more, story if head is None else story + (head,), rows + (after,))
 
-    yield from go_on(0, ((),) * table[0], (), ())
+    yield from go_on(0, ((),) * table[0], (), (), ())
+
+
+def unseen_stories(table, kind, made_up=(1000, 1001)):
+    return (story for story, _ in walks(table, kind, made_up))
 
 
 def tried_hidden(table, kind, made_up=(1000, 1001)):
@@ -208,9 +236,10 @@ def one_more_rule(table, lead, same):
     return new_lead, new_same
 
 
-def ruled(table, kind):
-    """All leads and all alikes by the rules, as ascending lists."""
+def ruled(table, kind, alike=()):
+    """All leads and all alikes by the rules, as ascending lists; with pairs that are alike from the beginning."""
     lead, same = first_rules(table, kind)
+    same |= {(min(pair), max(pair)) for pair in alike}
     while True:
         new_lead, new_same = one_more_rule(table, lead, same)
         if new_lead <= lead and new_same <= same:
@@ -239,3 +268,93 @@ def is_paper(table, kind, i, j, thing):
         else:
             return False
     return thing[-1] in (("alike", i, j), ("alike", j, i))
+
+
+@functools.lru_cache(maxsize=None)
+def told_hidden(table, kind):
+    """The pairs of looks, the lesser one first, that the rules do not show alike."""
+    same = ruled(table, kind)[1]
+    return [pair for pair in itertools.combinations(range(len(look_list(table))), 2) if pair not in same]
+
+
+def meeting_list(table):
+    return [place for place, event in enumerate(table[1]) if event[0] in ("meet", "tell")]
+
+
+def left_over(table, liars, lost):
+    """What liars and losses leave of a timetable, and the number in it of each look that is left."""
+    events, numbers, look = [], {}, 0
+    for place, event in enumerate(table[1]):
+        stays = event[0] == "add" or place not in lost and not set(event[1:]) & set(liars)
+        if event[0] == "look":
+            if stays:
+                numbers[look] = len(numbers)
+            look += 1
+        if stays:
+            events.append(event)
+    return (table[0], tuple(events)), numbers
+
+
+@functools.lru_cache(maxsize=None)
+def pairs_left(table, kind, liars, lost):
+    """The pairs of looks, by the numbers that they had, that are hidden in what is left."""
+    left, numbers = left_over(table, liars, lost)
+    old = {new: look for look, new in numbers.items()}
+    return frozenset((old[i], old[j]) for i, j in told_hidden(left, kind))
+
+
+def it_hides(table, kind, i, j, liars, lost):
+    """Whether two looks are hidden in what is left."""
+    return (min(i, j), max(i, j)) in pairs_left(table, kind, tuple(liars), tuple(sorted(lost)))
+
+
+def profiles(table, kind, made_up):
+    """What the unseen stories can do: for each one whether two heads are unlike, and for each look the sets of people
+    who come to know an entry that is first shown there; and for each look the last place at which each can come to."""
+    found, late = set(), {}
+    for story, rows in walks(table, kind, made_up, once=True):
+        forked = any(unlike(one, other) for one, other in itertools.combinations(story, 2))
+        shown = [set() for _ in story]
+        for entry in made_up:
+            at = [look for look, head in enumerate(story) if entry in head]
+            if at:
+                places = {person: next((place for place, known in enumerate(rows) if entry in known[person]), None)
+                          for person in range(table[0])}
+                shown[at[0]].add(frozenset(person for person in places if places[person] is not None))
+                for person, place in places.items():
+                    if place is not None:
+                        late[at[0], person] = max(place, late.get((at[0], person), -1))
+        found.add((forked, tuple(frozenset(sets) for sets in shown)))
+    return found, late
+
+
+def word_of(found, wanted):
+    """The word for what the stories can do: wanted is a dict of the people from whom it is kept, by look."""
+    ways = {forked for forked, shown in found
+            if all(any(not people & set(hearers) for hearers in shown[look]) for look, people in wanted.items())}
+    return "no" if not ways else "delay" if False in ways else "fork"
+
+
+def hearers_of_entry(table, kind, story, entry):
+    """The people who come to know an entry, by walking the story; None if somebody notices."""
+    known, added, heads, hearers = ((),) * table[0], (), iter(story), set()
+    for event in table[1]:
+        known, noticed = step(kind, known, added, event, next(heads) if event[0] == "look" else None)
+        if noticed:
+            return None
+        if event[0] == "add":
+            added += (event[1],)
+        hearers |= {person for person in range(table[0]) if entry in known[person]}
+    return tuple(sorted(hearers))
+
+
+def first_shown(story, look):
+    """The made up entries that are first shown at a look."""
+    before = {entry for head in story[:look] for entry in head}
+    return [entry for entry in story[look] if entry >= 1000 and entry not in before]
+
+
+def fulfils(table, kind, story, wanted):
+    """Whether nobody notices, and at each look an entry is first shown that is kept from its people."""
+    return all(any(not people & set(hearers_of_entry(table, kind, story, entry))
+                   for entry in first_shown(story, look)) for look, people in wanted.items())

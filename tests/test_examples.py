@@ -2,7 +2,7 @@
 
 import unittest
 
-from hiddenforks import data, errors, forks, hall
+from hiddenforks import branches, data, errors, faults, forks, hall, keeping, plans
 
 DATA = """
 >>> table = (3, (("look", 0), ("look", 1), ("meet", 0, 2), ("add", 2), ("look", 2), ("meet", 1, 2)))
@@ -36,6 +36,64 @@ FORKS = """
 (False, [(0, 2), (1, 2)], 7)
 """
 
+FAULTS = """
+>>> nets(table, "long", 0, 1), circles(table, "long", 0, 1), least_lost(table, "long", 0, 1), least_liars(table, "long", 0, 1)
+([(2, 5)], [(2,)], (2,), (2,))
+>>> remaining(table, [2], []), look_left(table, [0], 1), frontier(table, "long", 0, 1), faults(table, "long", 0, 1, 1)
+((3, (('look', 0), ('look', 1), ('add', 2))), 0, [(0, 1), (1, 0)], ((2,), ()))
+>>> fragile(table, "long", 0), fragile(table, "long", 1), nets(drawn, "long", 0, 1), circles(drawn, "long", 0, 1)
+([], [(0, 1), (0, 2), (1, 2)], [(4, 5, 6, 7)], [(2, 3, 4)])
+>>> twice = (2, (("look", 0), ("look", 1), ("meet", 0, 1), ("meet", 0, 1)))
+>>> nets(twice, "short", 0, 1), least_lost(twice, "short", 0, 1), lost_paper(twice, "short", 0, 1), least_liars(twice, "short", 0, 1)
+([(2,), (3,)], (2, 3), ((2,), (3,)), None)
+>>> shows_least(table, "long", 0, 1, [5], ((2, 5),)), shows_least(table, "long", 0, 1, [2, 5], ((2, 5),))
+(True, False)
+>>> remaining(table, [], [3])
+raises NoMeeting(index=3)
+"""
+
+KEEPING = """
+>>> kept_from(table, "long", 1), kept_from(table, "short", 0), add_kept_from(table, "short", 0), known_at(table, "long", 0, 1)
+([0], [1, 2], [0, 1], 5)
+>>> keep_way(table, "long", 0, [1]), keep_way(table, "short", 0, [2]), keep_way(table, "short", 0, [1])
+('no', 'fork', 'delay')
+>>> audiences(table, "long", 1), audiences(table, "short", 0), shown_to(table, "short", 0, [0, 1])
+([(1, 2)], [(0,), (0, 1, 2), (0, 2)], None)
+>>> heard = (4, (("look", 0), ("look", 1), ("tell", 0, 2), ("tell", 1, 2)))
+>>> kept_from(heard, "long", 0), clash(heard, "long", [(0, 1)]), clash(heard, "long", [(1, 3), (1, 0), (0, 1)]), wish_way(heard, "long", [(0, 1), (1, 3)])
+([1, 3], None, ((0, 1), (1, 0)), 'no')
+>>> is_unseen(heard, "long", keep_all(heard, "long", [(1, 0), (1, 3)])), keep_all(heard, "short", [(0, 1), (1, 0)]) == None
+(True, False)
+"""
+
+BRANCHES = """
+>>> line = (5, (("look", 0), ("add", 2), ("add", 3), ("look", 2), ("look", 3), ("look", 1), ("look", 4), ("meet", 0, 1), ("meet", 1, 2), ("meet", 2, 3), ("meet", 3, 4)))
+>>> hidden(line, "short", 0, 4), hidden(line, "short", 3, 4), together(line, "short", [(0, 4), (3, 4)]), knot(line, "short", [(0, 4), (3, 4)])
+(True, True, False, (0, 1, 2, 3, 4))
+>>> most_pairs(line, "short"), most_branches(line, "short"), course(line, "short")
+(((0, 1), (0, 2), (0, 4), (1, 4)), (0, 1, 4), [1, 1, 1, 2, 3, 4, 5, 4, 4, 3, 3])
+>>> is_unseen(line, "short", story_of(line, "short", [(0, 4), (1, 4)])), story_of(line, "short", [(0, 4)], [(0, 1), (1, 4)])
+(True, None)
+>>> spare(table, "long"), least_same(table, "long"), spare(line, "short")
+([], (2, 5), [])
+"""
+
+PLANS = """
+>>> known_by(3, "meet", ((0, 1), (1, 2))), known_by(3, "tell", ((0, 1), (1, 2)))
+([[0, 1], [0, 1, 2], [0, 1, 2]], [[0], [0, 1], [0, 1, 2]])
+>>> unknown_pairs(4, "meet", ((1, 2), (0, 1), (2, 3))), best_order(4, "meet", ((1, 2), (0, 1), (2, 3)))
+([(0, 3)], (0, ((0, 1), (1, 2), (2, 3))))
+>>> against(4, "meet", ((1, 2), (0, 1), (2, 3)), "somebody"), against(3, "meet", ((0, 1), (1, 2)), "everybody")
+((0, 3), ((0, 2), 0))
+>>> ring, row = ((0, 1), (0, 3), (1, 2), (2, 3)), ((0, 1), (1, 2), (2, 3))
+>>> fewest_meetings(4, "meet", ring, "everybody"), fewest_meetings(4, "meet", row, "everybody"), fewest_meetings(4, "tell", row, "everybody")
+(4, 5, None)
+>>> fewest_meetings(4, "tell", row, "somebody"), reaches(4, "meet", ((0, 1), (2, 3), (1, 2), (0, 3)), "everybody"), fewest_rounds(6), fewest_rounds(5)
+(3, True, 3, 4)
+>>> weak_meetings(3, "meet", ((0, 1), (1, 2), (0, 2))), weak_people(4, "meet", ring), weak_people(3, "meet", ((0, 1), (1, 2)))
+([], [], [1])
+"""
+
 
 def told(line, names):
     """What the document writes below this line: the value, or the error."""
@@ -50,7 +108,7 @@ class Examples(unittest.TestCase):
 
     def setUp(self):
         self.names = {}
-        for module in (data, errors, hall, forks):
+        for module in (data, errors, hall, forks, faults, keeping, branches, plans):
             self.names.update(vars(module))
 
     def run_examples(self, text):
@@ -74,6 +132,21 @@ class Examples(unittest.TestCase):
     def test_forks(self):
         self.run_examples(DATA)
         self.assertEqual(self.run_examples(FORKS), 4)
+
+    def test_faults(self):
+        self.run_examples(DATA + FORKS)
+        self.assertEqual(self.run_examples(FAULTS), 6)
+
+    def test_keeping(self):
+        self.run_examples(DATA)
+        self.assertEqual(self.run_examples(KEEPING), 5)
+
+    def test_branches(self):
+        self.run_examples(DATA)
+        self.assertEqual(self.run_examples(BRANCHES), 4)
+
+    def test_plans(self):
+        self.assertEqual(self.run_examples(PLANS), 6)
 
 
 if __name__ == "__main__":

@@ -6,11 +6,11 @@ import inspect
 import pathlib
 import unittest
 
-from hiddenforks import data, errors, forks, hall
+from hiddenforks import branches, data, errors, faults, forks, hall, keeping, plans
 from hiddenforks.forks import fork, paper
 from hiddenforks.hall import Hall, noticed_at
 
-from support import DRAWN, KINDS, TABLE, junk, large_tables, listed, nested, tupled
+from support import DRAWN, HEARD, KINDS, LINE, TABLE, TWICE, junk, large_tables, listed, nested, tupled
 
 INTERFACE = {
     data: {"is_event": "people thing", "is_timetable": "thing", "is_head": "thing", "is_story": "timetable thing",
@@ -20,11 +20,36 @@ INTERFACE = {
     forks: {"alikes": "timetable kind", "leads": "timetable kind", "hidden": "timetable kind i j",
             "hidden_pairs": "timetable kind", "fork": "timetable kind i j", "seen_at": "timetable kind i j",
             "paper": "timetable kind i j", "shows_seen": "timetable kind i j thing"},
+    faults: {"remaining": "timetable liars lost", "look_left": "timetable liars look", "nets": "timetable kind i j",
+             "circles": "timetable kind i j", "least_lost": "timetable kind i j", "least_liars": "timetable kind i j",
+             "lost_paper": "timetable kind i j", "shows_least": "timetable kind i j lost thing",
+             "faults": "timetable kind i j many", "frontier": "timetable kind i j", "fragile": "timetable kind many"},
+    keeping: {"kept_from": "timetable kind i", "keep_story": "timetable kind i people",
+              "keep_way": "timetable kind i people", "known_at": "timetable kind i person",
+              "add_kept_from": "timetable kind entry", "audiences": "timetable kind i",
+              "shown_to": "timetable kind i people", "keep_all": "timetable kind wishes",
+              "wish_way": "timetable kind wishes", "clash": "timetable kind wishes"},
+    branches: {"most_branches": "timetable kind", "course": "timetable kind", "together": "timetable kind pairs alike",
+               "story_of": "timetable kind pairs alike", "knot": "timetable kind pairs alike",
+               "is_knot": "timetable kind pairs alike thing", "most_pairs": "timetable kind", "spare": "timetable kind",
+               "least_same": "timetable kind"},
+    plans: {"known_by": "people way plan", "unknown_pairs": "people way plan", "reaches": "people way plan goal",
+            "against": "people way plan goal", "fewest_meetings": "people way graph goal",
+            "meeting_plan": "people way graph goal", "fewest_rounds": "people", "rounds_plan": "people",
+            "shows_rounds": "people thing", "best_order": "people way plan", "weak_meetings": "people way plan",
+            "weak_people": "people way plan"},
 }
 METHODS = {"look": "person head", "add": "person", "meet": "person other", "tell": "person other", "do": "event head",
            "knows": "person", "wants": "person", "noticed": "", "adders": "", "twin": "", "__eq__": "other",
            "__len__": "", "__repr__": ""}
 STORY = ((1000,), (1001,), (0, 1002))
+LISTS = (data.looks, data.adds, forks.alikes, forks.leads, forks.hidden_pairs, faults.nets, faults.circles, faults.frontier,
+         faults.fragile, keeping.kept_from, keeping.add_kept_from, keeping.audiences, branches.course, branches.spare,
+         plans.known_by, plans.unknown_pairs, plans.weak_meetings, plans.weak_people)
+TUPLES = (noticed_at, fork, paper, faults.remaining, faults.least_lost, faults.least_liars, faults.lost_paper, faults.faults,
+          keeping.keep_story, keeping.shown_to, keeping.keep_all, keeping.clash, branches.most_branches, branches.story_of,
+          branches.knot, branches.most_pairs, branches.least_same, plans.against, plans.meeting_plan, plans.rounds_plan,
+          plans.best_order)
 
 
 def calls():
@@ -51,6 +76,71 @@ def calls():
             for function in (forks.hidden, forks.fork, forks.seen_at, forks.paper):
                 yield function, (TABLE, kind, i, j), False
             yield forks.shows_seen, (TABLE, kind, i, j, paper(TABLE, kind, i, j)), True
+    yield from fault_calls()
+    yield from keeping_calls()
+    yield from branch_calls()
+    yield from plan_calls()
+
+
+def fault_calls():
+    for liars, lost in (((), ()), ((0,), (5, 5)), ((2, 1), (2,))):
+        yield faults.remaining, (TABLE, liars, lost), False
+    yield faults.look_left, (TABLE, (0,), 1), False
+    for kind in KINDS:
+        for table in (TABLE, TWICE, DRAWN):
+            for function in (faults.nets, faults.circles, faults.least_lost, faults.least_liars, faults.lost_paper,
+                             faults.frontier):
+                yield function, (table, kind, 0, 1), False
+            yield faults.faults, (table, kind, 1, 0, 1), False
+            yield faults.fragile, (table, kind, 1), False
+        yield faults.shows_least, (TWICE, kind, 0, 1, (3, 2), ((2,), (3,))), True
+        yield faults.shows_least, (TABLE, kind, 0, 1, (5,), ((2, 5),)), True
+
+
+def keeping_calls():
+    for kind in KINDS:
+        for table in (TABLE, HEARD):
+            for i in (0, 1):
+                yield keeping.kept_from, (table, kind, i), False
+                yield keeping.audiences, (table, kind, i), False
+                yield keeping.known_at, (table, kind, i, 2), False
+                for people in ((), (2,), (1, 0, 1)):
+                    for function in (keeping.keep_story, keeping.keep_way, keeping.shown_to):
+                        yield function, (table, kind, i, people), False
+            for wishes in ((), ((0, 1),), ((1, 0), (0, 1), (1, 0))):
+                for function in (keeping.keep_all, keeping.wish_way, keeping.clash):
+                    yield function, (table, kind, wishes), False
+        yield keeping.shown_to, (TABLE, kind, 0, (2, 0)), False
+        yield keeping.add_kept_from, (TABLE, kind, 0), False
+
+
+def branch_calls():
+    for kind in KINDS:
+        for table in (TABLE, LINE, TWICE):
+            for function in (branches.most_branches, branches.course, branches.most_pairs, branches.spare,
+                             branches.least_same):
+                yield function, (table, kind), False
+            for wishes in ((((0, 1),),), ((), ()), (((1, 0),), ((0, 1),))):
+                for function in (branches.together, branches.story_of, branches.knot):
+                    yield function, (table, kind) + wishes, False
+        yield branches.story_of, (LINE, kind, ((0, 4), (1, 4)), ()), False
+        yield branches.is_knot, (LINE, kind, ((0, 4), (3, 4)), (), (0, 1, 2, 3, 4)), True
+
+
+def plan_calls():
+    for way in ("meet", "tell"):
+        for plan in ((), ((1, 2), (0, 1), (2, 3), (0, 1))):
+            for function in (plans.known_by, plans.unknown_pairs, plans.best_order, plans.weak_meetings,
+                             plans.weak_people):
+                yield function, (4, way, plan), False
+            for goal in ("somebody", "everybody"):
+                for function in (plans.reaches, plans.against, plans.fewest_meetings, plans.meeting_plan):
+                    yield function, (4, way, tuple(sorted(set(plan))), goal), False
+        ring = tuple((p, (p + 1) % 4) for p in range(4)) if way == "tell" else ((0, 1), (0, 3), (1, 2), (2, 3))
+        yield plans.meeting_plan, (4, way, ring, "everybody"), False
+    yield plans.fewest_rounds, (5,), False
+    yield plans.rounds_plan, (6,), False
+    yield plans.shows_rounds, (3, (((0, 1),), ((1, 2),), ((0, 1),))), True
 
 
 def with_lists(arguments, has_thing):
@@ -92,9 +182,13 @@ class General(unittest.TestCase):
         for function, arguments, has_thing in calls():
             given = with_lists(arguments, has_thing)
             got = function(*given)
-            self.assertEqual(got, [tupled(row) for row in got] if isinstance(got, list) else tupled(got))
-            if function in (fork, paper, noticed_at):
-                self.assertIn(type(got), (tuple, type(None)))
+            if function is plans.known_by:
+                self.assertEqual({type(row) for row in got}, {list})
+            else:
+                self.assertEqual(got, [tupled(row) for row in got] if isinstance(got, list) else tupled(got))
+            self.assertIs(isinstance(got, list), function in LISTS, function.__name__)
+            if function in TUPLES:
+                self.assertIn(type(got), (tuple, type(None)), function.__name__)
             if isinstance(got, list):
                 want = list(got)
                 got.append("mine")
@@ -150,7 +244,11 @@ class Interface(unittest.TestCase):
         for module, functions in INTERFACE.items():
             for name, parameters in functions.items():
                 function = getattr(module, name)
-                self.assertEqual(list(inspect.signature(function).parameters), parameters.split(), name)
+                told = inspect.signature(function).parameters
+                self.assertEqual(list(told), parameters.split(), name)
+                if name != "Hall":
+                    left_out = ["alike"] if name in ("together", "story_of", "knot") else []
+                    self.assertEqual([one for one in told if told[one].default is not inspect.Parameter.empty], left_out)
                 self.assertEqual(function.__module__, module.__name__, name)
 
     def test_the_methods_stand_in_the_class_itself(self):
