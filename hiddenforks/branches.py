@@ -106,6 +106,7 @@ def least_same(timetable, kind):
     for kept in choices(places):
         if hidden_pairs(remaining(timetable, [], without(places, kept)), kind) == before:
             return kept
+    # Not reached: all of them together hide nothing more.
     return tuple(places)
 
 
@@ -129,5 +130,5 @@ def both_ways(pairs):
 
 
 def is_stuck(some, facts, drawn, barred):
-    """Whether LOOKs, more than one, hang together and none of them can begin all others."""
-    return len(some) > 1 and len(parts_of(some, facts)) == 1 and first_of(some, facts, drawn, barred) is None
+    """Whether these LOOKs hang together and none of them can begin all others (one alone always can)."""
+    return len(parts_of(some, facts)) == 1 and first_of(some, facts, drawn, barred) is None

@@ -82,16 +82,16 @@ def lost_paper(timetable, kind, i, j):
 
 def paper_of(found, open_sets, many):
     """The least tuple of so many of the nets that leaves no open set with a member of each; None if there is none."""
-    if many == 0 or not open_sets:
-        return () if many == 0 and not open_sets else None
-    missed = [len([some for some in open_sets if not share(some, net)]) for net in found]
-    if sum(sorted(missed, reverse=True)[:many]) < len(open_sets):
+    if many == 0:
+        return None if open_sets else ()
+    missing = [len([some for some in open_sets if not share(some, net)]) for net in found]
+    if sum(sorted(missing, reverse=True)[:many]) < len(open_sets):
+        # Not even the nets that most of the open sets have no member of would be enough.
         return None
-    for at, net in enumerate(found):
-        still = [some for some in open_sets if share(some, net)]
-        rest = paper_of(found[at + 1:], still, many - 1)
+    for at, first in enumerate(found):
+        rest = paper_of(found[at + 1:], [one for one in open_sets if share(one, first)], many - 1)
         if rest is not None:
-            return (net,) + rest
+            return (first,) + rest
     return None
 
 

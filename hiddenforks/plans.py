@@ -219,10 +219,9 @@ def orders(pairs):
 
 def weak_meetings(people, way, plan):
     """The indices of those that, left out alone, let further LOOKs be unknown to one another."""
-    pairs = frozen(plan)
-    before = unknown_pairs(people, way, pairs)
-    return [index for index in range(len(pairs))
-            if unknown_pairs(people, way, pairs[:index] + pairs[index + 1:]) != before]
+    before = unknown_pairs(people, way, plan)
+    return [index for index in range(len(plan))
+            if unknown_pairs(people, way, plan[:index] + plan[index + 1:]) != before]
 
 
 def weak_people(people, way, plan):

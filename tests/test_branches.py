@@ -248,6 +248,14 @@ class Meetings(unittest.TestCase):
                     self.assertEqual(got, [some for some in able if len(some) == len(able[-1])][0], (table, kind))
         self.assertLessEqual({0, 1, 2}, several)
 
+    def test_the_middle_of_a_star_may_not_begin_it(self):
+        # Look 2 shows what was added behind look 0, so it cannot begin all, though this would leave more pairs apart.
+        star = (6, (("look", 0), ("add", 2), ("look", 1), ("look", 2), ("look", 3), ("look", 4), ("look", 5), ("meet", 0, 1),
+                    ("meet", 1, 2), ("meet", 2, 3), ("meet", 2, 4), ("meet", 2, 5)))
+        self.assertEqual(most_pairs(star, "short"), ((0, 2), (0, 3), (0, 4), (0, 5), (3, 4), (3, 5), (4, 5)))
+        free = (6, star[1][:1] + star[1][2:])
+        self.assertEqual(len(most_pairs(free, "short")), 9)
+
     def test_spare_and_least_same_by_trying_all_sets(self):
         spared, sizes = 0, set()
         for table in itertools.chain((TABLE, DRAWN, LINE, TWICE, HEARD), small_tables(56, 60), middle_tables(57, 40)):

@@ -314,6 +314,9 @@ class Both(unittest.TestCase):
         self.assertEqual(frontier(table, "long", 0, 1), [(0, 2), (1, 1), (2, 0)])
         self.assertEqual([faults(table, "long", 0, 1, many) for many in range(4)],
                          [((), (2, 4)), ((2,), (4,)), ((2, 3), ()), ((2, 3), ())])
+        uneven = (4, table[1] + (("meet", 0, 3), ("meet", 3, 1)))
+        self.assertEqual(frontier(uneven, "long", 0, 1), [(0, 3), (1, 1), (2, 0)])
+        self.assertEqual([faults(uneven, "long", 0, 1, many) for many in range(2)], [((), (2, 4, 6)), ((3,), (2,))])
         straight = (3, table[1][:4] + (("meet", 0, 1),))
         self.assertEqual(frontier(straight, "long", 0, 1), [(0, 2), (1, 1)])
         self.assertEqual(faults(straight, "long", 0, 1, 2), ((2,), (4,)))

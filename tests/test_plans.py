@@ -285,6 +285,7 @@ class Rounds(unittest.TestCase):
                       (((0, 1), (2, 3)), ((0, 2), (1, 2), (1, 3))), (((0, 1), (0, 1), (2, 3)), right[1]),
                       (((False, True), (2, 3)), right[1]), (right[0], right[0]), (right[0], ()), ((), right[0]),
                       (((0, 1), (2, 3), (4, 5)), right[1]), (((-1, 1), (2, 3)), right[1]), (((0, 0), (2, 3)), right[1]),
+                      (((0, 1), (2, 4)), right[1]), (((-1, 2), (0, 1)), right[1]), (((0, 1), (2, -1)), right[1]),
                       (((0, 1, 2), (2, 3)), right[1]), (((0,), (2, 3)), right[1]), (right[0], None), None, (None, None),
                       (((0, 1), (2, 3)), ((0, 2), ("1", 3))), ((((0, 1), (2, 3)),), right[1])):
             self.assertIs(shows_rounds(4, thing), False, thing)
