@@ -4,6 +4,7 @@ Each folder is run in a process of its own, so that files of one name in two fol
 behave the same under Python 3.11 and 3.13: where the other one is at hand, the tests run under it, too.
 """
 
+import concurrent.futures
 import glob
 import os
 import subprocess
@@ -57,23 +58,26 @@ def run_folder(folder):
     print(f"\n{result.testsRun} {failed}", flush=True)
 
 
-def counts_of(python, folder):
-    """How many tests ran in this folder, and how many failed; one failed if they did not come to their end."""
-    answer = subprocess.run([python, "-B", os.path.abspath(__file__), folder], cwd=ROOT, stdout=subprocess.PIPE, text=True)
+def run_apart(job):
+    """What is printed by this Python in this folder, how many tests ran, and how many failed; one failed if they did
+    not come to their end."""
+    (_, python), folder = job
+    answer = subprocess.run([python, "-B", os.path.abspath(__file__), folder], cwd=ROOT, text=True,
+                            stdout=subprocess.PIPE, stderr=subprocess.PIPE)
     words = answer.stdout.split("\n")[-2].split() if answer.stdout.endswith("\n") else []
     if answer.returncode != 0 or len(words) != 2 or not all(word.isdigit() for word in words):
-        return 0, 1
-    return int(words[0]), int(words[1])
+        return answer.stderr, 0, 1
+    return answer.stderr, int(words[0]), int(words[1])
 
 
 def main():
     ran = failed = 0
-    for version, python in pythons().items():
-        for folder in folders():
-            many, bad = counts_of(python, folder)
+    jobs = [(python, folder) for python in pythons().items() for folder in folders()]
+    with concurrent.futures.ThreadPoolExecutor(max_workers=2) as pool:
+        for ((version, _), folder), (text, many, bad) in zip(jobs, pool.map(run_apart, jobs)):
             bad = max(bad, 1 if many == 0 else 0)
-            print(f"Python {version[0]}.{version[1]}, {os.path.relpath(folder, ROOT)}: {many} tests ran, {bad} failed",
-                  flush=True)
+            print(text, f"Python {version[0]}.{version[1]}, {os.path.relpath(folder, ROOT)}: {many} tests ran, {bad} failed",
+                  sep="", flush=True)
             ran, failed = ran + many, failed + bad
     print(f"{max(ran - failed, 0)} passed, {failed} failed")
     return 1 if failed or not ran else 0

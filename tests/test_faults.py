@@ -243,7 +243,7 @@ class Papers(unittest.TestCase):
 
     def test_what_shows_it_and_what_does_not(self):
         said, dice = [0, 0], chance(11)
-        for table, kind, i, j in cases(7, 16):
+        for table, kind, i, j in cases(7, 12):
             found, places = told_nets(table, kind, i, j), meeting_list(table)
             things = subsets(found)[:8] + [tuple(found), tuple(reversed(found)), (places,), (tuple(places),), tuple(places)]
             for thing in things:
@@ -294,7 +294,7 @@ class Both(unittest.TestCase):
 
     def test_by_trying_all_pairs_of_liars_and_losses(self):
         kinds_of_frontier = set()
-        for table, kind, i, j in cases(8, 22):
+        for table, kind, i, j in cases(8, 16):
             places, others = meeting_list(table), others_of(table, i, j)
             hiding = [(liars, lost) for liars in subsets(others) for lost in subsets(places)
                       if it_hides(table, kind, i, j, liars, lost)]

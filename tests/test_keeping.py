@@ -216,7 +216,7 @@ class Words(unittest.TestCase):
         star = (3, (("look", 0), ("look", 1), ("look", 2), ("meet", 0, 2), ("meet", 1, 2)))
         path = (4, tuple(("look", p) for p in range(4)) + tuple(("meet", p, p + 1) for p in range(3)))
         for table, wishes in ((star, [(0, 1), (1, 0), (2, 1)]), (path, [(0, 3), (1, 0), (2, 0), (3, 0)])):
-            found, _ = profiles(table, "short", (1000, 1001, 1002, 1003))
+            found, _ = profiles(table, "short", tuple(range(1000, 1000 + len(wishes))))
             self.assertEqual(clash(table, "short", wishes[::-1]), tuple(wishes))
             self.assertEqual(word_of(found, by_look(wishes)), "no")
             for at in range(len(wishes)):
