@@ -81,8 +81,7 @@ def best_below(some, best, facts, drawn):
         if not any([cannot_begin(first, other, facts, drawn, {}) for other in some]):
             unlike = best[tuple([look for look in some if look != first])]
             ways.append((-len(unlike), unlike))
-    _, unlike = min(ways)
-    return unlike
+    return min(ways)[1]
 
 
 def best_beside(parts, best):

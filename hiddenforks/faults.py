@@ -119,10 +119,7 @@ def faults(timetable, kind, i, j, many):
     """Liars, at most so many, and lost meets and tells with which together it hides; None if there are none."""
     check_looks(timetable, [i, j])
     ways = [(len(lost), len(liars), liars, lost) for liars, lost in ways_to_hide(timetable, kind, i, j, many)]
-    if not ways:
-        return None
-    _, _, liars, lost = min(ways)
-    return liars, lost
+    return min(ways)[2:] if ways else None
 
 
 def ways_to_hide(timetable, kind, i, j, many):
