@@ -1,6 +1,6 @@
 """How many LOOKs can be unlike at once, and which meets and tells can be spared."""
 
-from hiddenforks.checks import check_looks, meetings
+from hiddenforks.checks import check_pairs, meetings
 from hiddenforks.data import looks
 from hiddenforks.faults import remaining, without
 from hiddenforks.forks import hidden_pairs
@@ -32,13 +32,13 @@ def together(timetable, kind, pairs, alike=()):
 
 def story_of(timetable, kind, pairs, alike=()):
     """An unseen STORY with the pairs unlike and those of alike comparable; None if there is none."""
-    check_pairs(timetable, pairs, alike)
+    check_pairs(timetable, list(pairs) + list(alike))
     return unseen_story(timetable, wished_facts(timetable, kind, alike), both_ways(pairs))
 
 
 def knot(timetable, kind, pairs, alike=()):
     """The fewest LOOKs for which these wishes cannot be fulfilled; None if they can."""
-    check_pairs(timetable, pairs, alike)
+    check_pairs(timetable, list(pairs) + list(alike))
     facts = wished_facts(timetable, kind, alike)
     drawn = drawn_pairs(timetable)
     barred = both_ways(pairs)
@@ -50,7 +50,7 @@ def knot(timetable, kind, pairs, alike=()):
 
 def is_knot(timetable, kind, pairs, alike, thing):
     """Whether thing is an ascending tuple of LOOKs that hang together, and none of them can begin all others."""
-    check_pairs(timetable, pairs, alike)
+    check_pairs(timetable, list(pairs) + list(alike))
     many = len(looks(timetable))
     if not isinstance(thing, tuple) or not all([is_number(look) and 0 <= look < many for look in thing]):
         return False
@@ -107,12 +107,6 @@ def least_same(timetable, kind):
             return kept
     # Not reached: all of them together hide nothing more.
     return tuple(places)
-
-
-def check_pairs(timetable, pairs, alike):
-    """Raises NoLook for the first number in pairs, then in alike, that is that of no LOOK."""
-    for pair in list(pairs) + list(alike):
-        check_looks(timetable, pair)
 
 
 def wished_facts(timetable, kind, alike):

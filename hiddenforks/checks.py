@@ -12,6 +12,12 @@ def check_looks(timetable, numbers):
             raise NoLook(number)
 
 
+def check_pairs(timetable, pairs):
+    """Raises NoLook for the first number in the pairs that is that of no LOOK."""
+    for pair in pairs:
+        check_looks(timetable, pair)
+
+
 def check_people(timetable, numbers):
     """Raises NoPerson for the first of the numbers that is that of no person."""
     people, _ = timetable

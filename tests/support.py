@@ -16,6 +16,9 @@ HEARD = (4, (("look", 0), ("look", 1), ("tell", 0, 2), ("tell", 1, 2)))
 TWICE = (2, (("look", 0), ("look", 1), ("meet", 0, 1), ("meet", 0, 1)))
 LINE = (5, (("look", 0), ("add", 2), ("add", 3), ("look", 2), ("look", 3), ("look", 1), ("look", 4),
             ("meet", 0, 1), ("meet", 1, 2), ("meet", 2, 3), ("meet", 3, 4)))
+FAR = (4, (("look", 0), ("add", 1), ("look", 1), ("look", 3), ("tell", 1, 2), ("tell", 3, 2)))
+APART = (4, (("look", 0), ("look", 1), ("look", 2), ("look", 3)))
+CHAIN = [("meet", 0, 1), ("meet", 1, 2), ("meet", 2, 3)]
 
 
 def check_error(case, error, value, function, *arguments):

@@ -2,7 +2,7 @@
 
 import unittest
 
-from hiddenforks import branches, data, errors, faults, forks, hall, keeping, plans
+from hiddenforks import branches, data, desk, errors, faults, forks, hall, keeping, more, plans, session, texts
 
 DATA = """
 >>> table = (3, (("look", 0), ("look", 1), ("meet", 0, 2), ("add", 2), ("look", 2), ("meet", 1, 2)))
@@ -94,6 +94,36 @@ PLANS = """
 ([], [], [1])
 """
 
+MORE = """
+>>> far = (4, (("look", 0), ("add", 1), ("look", 1), ("look", 3), ("tell", 1, 2), ("tell", 3, 2)))
+>>> hidden_pairs(far, "long"), reach(far, "long", 0), reach(far, "long", 2), mend(far, "long", [(0, 2)], [("meet", 0, 1)])
+([(0, 1), (0, 2)], [0], [2, 3], (('meet', 0, 1),))
+>>> apart = (4, (("look", 0), ("look", 1), ("look", 2), ("look", 3)))
+>>> chain = [("meet", 0, 1), ("meet", 1, 2), ("meet", 2, 3)]
+>>> mend(apart, "long", [(0, 3)], chain), mend(apart, "short", [(0, 2)], chain), unmended(apart, "long", [(0, 2), (0, 1)], chain[:1])
+((('meet', 0, 1), ('meet', 1, 2), ('meet', 2, 3)), None, [(0, 2)])
+>>> first_unlike(far, behind(far, [("meet", 0, 1)]), "long"), is_unseen(far, "long", unmended_story(far, "long", [(0, 2)], []))
+((0, 1), True)
+"""
+
+TEXTS = r"""
+>>> timetable_text(far), story_in("1000; -; 1000,0"), story_text(()), timetable_in("people 2\nmeet 0 1")
+('people 4\nlook 0\nadd 1\nlook 1\nlook 3\ntell 1 2\ntell 3 2', ((1000,), (), (1000, 0)), 'none', (2, (('meet', 0, 1),)))
+>>> timetable_in("people 2\nlook 0\nmeet 1 1")
+raises BadText(line=2)
+"""
+
+DESK = r"""
+>>> answers(timetable_text(far) + "\n\nlong\npairs\nmend 0+2 by meet 0 1\nmeet 0 1\npairs\nseen 0 2\nnotice 1000; 0; 0\nhidden 0 9")
+['0+1 0+2', 'meet 0 1', 'done', '-', '6', '6 0 1', 'refused NoLook']
+"""
+
+SESSION = """
+>>> s = Session(far, "long")
+>>> s.put(("meet", 0, 1)), s.pairs(), s.undo(), s.many(), s.pairs(), s.drop(1), s.mended([(0, 2)], [("meet", 0, 1)])
+(None, [], None, 0, [(0, 1), (0, 2)], None, None)
+"""
+
 
 def told(line, names):
     """What the document writes below this line: the value, or the error."""
@@ -108,7 +138,7 @@ class Examples(unittest.TestCase):
 
     def setUp(self):
         self.names = {}
-        for module in (data, errors, hall, forks, faults, keeping, branches, plans):
+        for module in (data, errors, hall, forks, faults, keeping, branches, plans, more, texts, desk, session):
             self.names.update(vars(module))
 
     def run_examples(self, text):
@@ -147,6 +177,21 @@ class Examples(unittest.TestCase):
 
     def test_plans(self):
         self.assertEqual(self.run_examples(PLANS), 6)
+
+    def test_more(self):
+        self.assertEqual(self.run_examples(MORE), 3)
+
+    def test_texts(self):
+        self.run_examples(MORE)
+        self.assertEqual(self.run_examples(TEXTS), 2)
+
+    def test_desk(self):
+        self.run_examples(MORE)
+        self.assertEqual(self.run_examples(DESK), 1)
+
+    def test_session(self):
+        self.run_examples(MORE)
+        self.assertEqual(self.run_examples(SESSION), 1)
 
 
 if __name__ == "__main__":

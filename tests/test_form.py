@@ -1,6 +1,7 @@
 """The form of the code: the rules of the Python subset that can be seen in the text.
 
-The tests hold the package to somewhat less than the subset allows: no handlers, generators, lambdas or matches.
+The tests hold the package to somewhat less than the subset allows: no generators, lambdas or matches, and handlers of
+own errors alone.
 """
 
 import ast
@@ -21,7 +22,7 @@ NODES = {"Module", "Expr", "Constant", "ImportFrom", "alias", "FunctionDef", "Cl
          "BinOp", "Add", "Sub", "Mult", "FloorDiv", "Mod", "UnaryOp", "Not", "USub", "Compare", "Eq", "NotEq", "Lt",
          "LtE", "Gt", "GtE", "Is", "IsNot", "In", "NotIn", "Call", "keyword", "Attribute", "Subscript", "Slice", "Name",
          "List", "Tuple", "Dict", "ListComp", "DictComp", "comprehension", "IfExp", "JoinedStr", "FormattedValue",
-         "Load", "Store", "Delete", "Del", "Starred"}
+         "Load", "Store", "Delete", "Del", "Starred", "Try", "ExceptHandler"}
 BUILTINS = set("""len range enumerate zip min max sum abs sorted reversed int str bool list tuple dict set isinstance
     ord repr any all divmod Exception ValueError TypeError KeyError IndexError LookupError ZeroDivisionError
     ArithmeticError OverflowError RuntimeError NotImplementedError AttributeError""".split())
@@ -136,11 +137,29 @@ class Form(unittest.TestCase):
             for node in tree.body:
                 if isinstance(node, ast.Assign):
                     self.assertTrue(len(node.targets) == 1 and isinstance(node.targets[0], ast.Name), path)
-                    ast.literal_eval(node.value)
+                    self.check_plain(node, [one.name for one in tree.body if isinstance(one, ast.FunctionDef)
+                                            and one.lineno < node.lineno])
                 elif isinstance(node, ast.Expr):
                     self.assertIsInstance(node.value.value, str, path)
                 else:
                     self.assertIsInstance(node, (ast.ImportFrom, ast.FunctionDef, ast.ClassDef), path)
+
+    def check_plain(self, node, functions):
+        """A plain value, or a dict from strings to functions that are defined above."""
+        if isinstance(node.value, ast.Dict) and isinstance(node.value.values[0], ast.Name):
+            self.assertEqual({type(key) for key in node.value.keys}, {ast.Constant})
+            self.assertLessEqual({value.id for value in node.value.values}, set(functions))
+        else:
+            ast.literal_eval(node.value)
+
+    def test_handlers_are_of_own_errors(self):
+        own = {node.name for _, node in self.nodes(ast.ClassDef)}
+        for where, node in self.nodes(ast.Try):
+            self.assertEqual((node.orelse, node.finalbody), ([], []), where)
+            for handler in node.handlers:
+                self.assertIn(handler.type.id, own, where)
+                used = [one for row in handler.body for one in ast.walk(row) if isinstance(one, ast.Attribute)]
+                self.assertTrue(handler.name is None or [one for one in used if one.value.id == handler.name], where)
 
     def test_each_name_is_bound_once_and_means_one_thing(self):
         for path, tree in self.trees.items():

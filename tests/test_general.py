@@ -6,11 +6,13 @@ import inspect
 import pathlib
 import unittest
 
-from hiddenforks import branches, data, errors, faults, forks, hall, keeping, plans
+from hiddenforks import branches, data, desk, errors, faults, forks, hall, keeping, more, plans, session, texts
 from hiddenforks.forks import fork, paper
 from hiddenforks.hall import Hall, noticed_at
+from hiddenforks.session import Session
 
-from support import DRAWN, HEARD, KINDS, LINE, TABLE, TWICE, junk, large_tables, listed, nested, tupled
+from support import (APART, CHAIN, DRAWN, FAR, HEARD, KINDS, LINE, TABLE, TWICE, junk, large_tables, listed, nested,
+                     tupled)
 
 INTERFACE = {
     data: {"is_event": "people thing", "is_timetable": "thing", "is_head": "thing", "is_story": "timetable thing",
@@ -38,18 +40,32 @@ INTERFACE = {
             "meeting_plan": "people way graph goal", "fewest_rounds": "people", "rounds_plan": "people",
             "shows_rounds": "people thing", "best_order": "people way plan", "weak_meetings": "people way plan",
             "weak_people": "people way plan"},
+    more: {"behind": "timetable events", "unmended": "timetable kind pairs events",
+           "unmended_story": "timetable kind pairs events", "mend": "timetable kind pairs allowed",
+           "is_mended": "timetable kind pairs allowed thing", "reach": "timetable kind i",
+           "first_unlike": "timetable other kind"},
+    texts: {"timetable_text": "timetable", "story_text": "story", "timetable_in": "text", "story_in": "text"},
+    desk: {"answers": "text"},
+    session: {"Session": "timetable kind"},
 }
-METHODS = {"look": "person head", "add": "person", "meet": "person other", "tell": "person other", "do": "event head",
+METHODS = {
+    Hall: {"look": "person head", "add": "person", "meet": "person other", "tell": "person other", "do": "event head",
            "knows": "person", "wants": "person", "noticed": "", "adders": "", "twin": "", "__eq__": "other",
-           "__len__": "", "__repr__": ""}
+           "__len__": "", "__repr__": ""},
+    Session: {"put": "event", "insert": "at event", "drop": "at", "exchange": "at", "turn": "kind", "undo": "",
+              "timetable": "", "kind": "", "many": "", "pairs": "", "seen": "i j", "story": "i j",
+              "mended": "pairs allowed", "twin": ""},
+}
 STORY = ((1000,), (1001,), (0, 1002))
-LISTS = (data.looks, data.adds, forks.alikes, forks.leads, forks.hidden_pairs, faults.nets, faults.circles, faults.frontier,
-         faults.fragile, keeping.kept_from, keeping.add_kept_from, keeping.audiences, branches.course, branches.spare,
-         plans.known_by, plans.unknown_pairs, plans.weak_meetings, plans.weak_people)
-TUPLES = (noticed_at, fork, paper, faults.remaining, faults.least_lost, faults.least_liars, faults.lost_paper, faults.faults,
-          keeping.keep_story, keeping.shown_to, keeping.keep_all, keeping.clash, branches.most_branches, branches.story_of,
-          branches.knot, branches.most_pairs, branches.least_same, plans.against, plans.meeting_plan, plans.rounds_plan,
-          plans.best_order)
+LISTS = (data.looks, data.adds, forks.alikes, forks.leads, forks.hidden_pairs, faults.nets, faults.circles,
+         faults.frontier, faults.fragile, keeping.kept_from, keeping.add_kept_from, keeping.audiences, branches.course,
+         branches.spare, plans.known_by, plans.unknown_pairs, plans.weak_meetings, plans.weak_people, more.unmended,
+         more.reach, desk.answers)
+TUPLES = (noticed_at, fork, paper, faults.remaining, faults.least_lost, faults.least_liars, faults.lost_paper,
+          faults.faults, keeping.keep_story, keeping.shown_to, keeping.keep_all, keeping.clash, branches.most_branches,
+          branches.story_of, branches.knot, branches.most_pairs, branches.least_same, plans.against, plans.meeting_plan,
+          plans.rounds_plan, plans.best_order, more.behind, more.unmended_story, more.mend, more.first_unlike,
+          texts.timetable_in, texts.story_in)
 
 
 def calls():
@@ -80,6 +96,8 @@ def calls():
     yield from keeping_calls()
     yield from branch_calls()
     yield from plan_calls()
+    yield from more_calls()
+    yield from text_calls()
 
 
 def fault_calls():
@@ -143,6 +161,31 @@ def plan_calls():
     yield plans.shows_rounds, (3, (((0, 1),), ((1, 2),), ((0, 1),))), True
 
 
+def more_calls():
+    for events in ((), (("meet", 0, 1), ("look", 0), ("meet", 0, 1))):
+        yield more.behind, (FAR, events), False
+    for kind in KINDS:
+        for table in (FAR, APART, LINE):
+            for pairs in ((), ((0, 1),), ((0, 2), (0, 1), (0, 2))):
+                for events in ((), tuple(CHAIN), (("tell", 0, 1), ("add", 1), ("look", 1))):
+                    for function in (more.unmended, more.unmended_story, more.mend):
+                        yield function, (table, kind, pairs, events), False
+                    yield more.is_mended, (table, kind, pairs, events, events), True
+            yield more.reach, (table, kind, 0), False
+            yield more.first_unlike, (table, APART, kind), False
+
+
+def text_calls():
+    for table in (FAR, LINE, (1, ())):
+        yield texts.timetable_text, (table,), False
+        yield texts.timetable_in, (texts.timetable_text(table),), False
+    for story in (STORY, (), ((), (1000, 0))):
+        yield texts.story_text, (story,), False
+        yield texts.story_in, (texts.story_text(story),), False
+    yield desk.answers, (texts.timetable_text(FAR) + "\n\nlong",), False
+    yield desk.answers, (texts.timetable_text(FAR) + "\n\nlong\npairs\nmeet 0 1\nfork 0 2\nlost 0 2\nkept 9",), False
+
+
 def with_lists(arguments, has_thing):
     """The arguments with lists for tuples; a thing stays as it is, since a list is another thing."""
     if has_thing:
@@ -157,7 +200,7 @@ class General(unittest.TestCase):
             names = list(inspect.signature(function).parameters)
             want = function(*arguments)
             for given in (arguments, with_lists(arguments, has_thing)):
-                for got in (function(*given), function(**dict(zip(names, given))),
+                for got in (function(*given), function(**dict(reversed(list(zip(names, given))))),
                             function(*given[:1], **dict(zip(names[1:], given[1:]))), function(*given)):
                     self.assertEqual(repr(got), repr(want), (function.__name__, given))
 
@@ -246,17 +289,21 @@ class Interface(unittest.TestCase):
                 function = getattr(module, name)
                 told = inspect.signature(function).parameters
                 self.assertEqual(list(told), parameters.split(), name)
-                if name != "Hall":
+                if name not in ("Hall", "Session"):
                     left_out = ["alike"] if name in ("together", "story_of", "knot") else []
-                    self.assertEqual([one for one in told if told[one].default is not inspect.Parameter.empty], left_out)
+                    self.assertEqual([one for one in told if told[one].default is not inspect.Parameter.empty],
+                                     left_out)
                 self.assertEqual(function.__module__, module.__name__, name)
 
     def test_the_methods_stand_in_the_class_itself(self):
-        for name, parameters in METHODS.items():
-            method = vars(Hall)[name]
-            self.assertEqual(list(inspect.signature(method).parameters), ["self"] + parameters.split(), name)
-        self.assertIsNone(inspect.signature(Hall.do).parameters["head"].default)
-        self.assertEqual(Hall.__bases__, (object,))
+        defaults = []
+        for made, methods in METHODS.items():
+            self.assertEqual(made.__bases__, (object,))
+            for name, parameters in methods.items():
+                told = inspect.signature(vars(made)[name]).parameters
+                self.assertEqual(list(told), ["self"] + parameters.split(), name)
+                defaults += [(name, one.default) for one in told.values() if one.default is not inspect.Parameter.empty]
+        self.assertEqual(defaults, [("do", None)])
 
     def test_all_is_defined_in_its_own_file(self):
         for module, functions in list(INTERFACE.items()) + [(errors, {"NoLook": "", "BadStory": ""})]:
