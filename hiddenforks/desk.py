@@ -34,7 +34,8 @@ def timetable_of(lines):
     try:
         return timetable_in("\n".join(lines))
     except BadText as wrong:
-        raise BadLine(wrong.line)
+        number = wrong.line
+    raise BadLine(number)
 
 
 def requests_of(timetable, lines, start):

@@ -26,6 +26,7 @@ def check_error(case, error, value, function, *arguments):
     with case.assertRaises(error) as caught:
         function(*arguments)
     case.assertIs(type(caught.exception), error)
+    case.assertIsNone(caught.exception.__context__)
     case.assertEqual(list(vars(caught.exception).values()), [value], (function.__name__, arguments))
 
 

@@ -113,12 +113,13 @@ class Beside(unittest.TestCase):
             for j in [j for j in range(-1, looks + 1) if j != i]:
                 for name, function, given in (("seen", forks.seen_at, (i, j)), ("story", forks.fork, (i, j)),
                                               ("mended", more.mend, ([(min(i, j), max(i, j))], allowed))):
-                    try:
-                        want = function(table, kind, *given)
-                    except NoLook as error:
-                        check_error(self, NoLook, error.number, getattr(one, name), *given)
+                    missing = [look for look in (given if name != "mended" else given[0][0])
+                               if look not in range(looks)]
+                    if missing:
+                        check_error(self, NoLook, missing[0], function, table, kind, *given)
+                        check_error(self, NoLook, missing[0], getattr(one, name), *given)
                     else:
-                        self.assertEqual(getattr(one, name)(*given), want)
+                        self.assertEqual(getattr(one, name)(*given), function(table, kind, *given))
 
     def test_queries_change_nothing(self):
         dice = chance(122)

@@ -91,7 +91,7 @@ class Timetables(unittest.TestCase):
             else:
                 self.assertEqual(timetable_in(text), want, text)
                 self.assertEqual(timetable_text(want), text)
-        self.assertGreater(min(said), 300)
+        self.assertGreater(min(said), 200)
 
     def test_at_the_bounds(self):
         lines = ["people 6"] + ["meet 0 5"] * 59
